@@ -1,0 +1,1 @@
+"""Operators that preserve real-rootedness, on polynomials with rational coefficients."""

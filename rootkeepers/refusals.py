@@ -1,0 +1,21 @@
+"""The reasons for which a call is refused, each an error of its own."""
+
+
+class NotCreated(Exception):
+    """A call other than create came before create."""
+
+
+class NoSuchSlot(Exception):
+    """A slot does not exist."""
+
+
+class OutOfRange(Exception):
+    """A parameter is outside its range."""
+
+
+class ZeroPolynomial(Exception):
+    """A polynomial that must not be zero is zero."""
+
+
+class TooLarge(Exception):
+    """A result has a number that is too large to be stored."""
