@@ -1,7 +1,15 @@
 """The calls on a keeper of slots: each gives back the whole numbers of its answer, or is refused."""
 
-from rootkeepers.checks import check_fraction, check_row, check_slots
+from rootkeepers.checks import (
+    SLOT_COUNT,
+    check_bits,
+    check_fraction,
+    check_row,
+    check_sequence,
+    check_slots,
+)
 from rootkeepers.fractionpairs import fraction
+from rootkeepers.moments import mean_of_roots, variance_of_roots
 from rootkeepers.polynomials import (
     derived,
     from_roots,
@@ -10,8 +18,16 @@ from rootkeepers.polynomials import (
     with_scaled_roots,
     with_shifted_roots,
 )
-from rootkeepers.realroots import has_only_real_roots
-from rootkeepers.refusals import OutOfRange
+from rootkeepers.products import (
+    free_sum_of,
+    hadamard_product_of,
+    schur_product_of,
+    schur_szego_of,
+    with_multipliers,
+)
+from rootkeepers.realroots import count_real_roots, has_only_nonnegative_roots, has_only_real_roots
+from rootkeepers.refusals import NoRoot, OutOfRange
+from rootkeepers.rootfloors import chain_of_scaled_roots, floor_of_root
 
 MOST_COEFFICIENTS = 7
 MOST_ROOTS = 6
@@ -105,16 +121,99 @@ def polar_derivative(keeper, source, target, numerator, denominator):
     return listed(keeper.store(target, polar_derived(polynomial, fraction(numerator, denominator))))
 
 
-# The calls behind create, by what they take.
-OF_A_ROW = {1: set_polynomial, 2: set_roots}
-OF_A_SLOT = {3: get_polynomial, 4: is_real_rooted}
-OF_TWO_SLOTS = {7: reciprocal, 8: derivative}
-OF_TWO_SLOTS_AND_AN_ARGUMENT = {
-    5: shift_roots,
-    6: scale_roots,
-    9: subtract_derivative,
-    10: polar_derivative,
+def apply_multiplier(keeper, source, target, sequence):
+    """Store the coefficients p[k] * m(k) for the multiplier sequence m."""
+    check_slots([source, target])
+    check_sequence(sequence)
+    polynomial = keeper.nonzero_polynomial(source)
+    return listed(keeper.store(target, with_multipliers(polynomial, sequence)))
+
+
+def store_combined(keeper, first, second, target, combine):
+    """Store what combine makes of the polynomials in two slots, which have the same degree."""
+    check_slots([first, second, target])
+    pair = keeper.pair_of_one_degree(first, second)
+    return listed(keeper.store(target, combine(pair[0], pair[1])))
+
+
+def schur_szego(keeper, first, second, target):
+    """Store the coefficients p[k] * q[k] / binomial(n, k)."""
+    return store_combined(keeper, first, second, target, schur_szego_of)
+
+
+def schur_product(keeper, first, second, target):
+    """Store the coefficients p[k] * q[k] * k!."""
+    return store_combined(keeper, first, second, target, schur_product_of)
+
+
+def hadamard_product(keeper, first, second, target):
+    """Store the coefficients p[k] * q[k]."""
+    return store_combined(keeper, first, second, target, hadamard_product_of)
+
+
+def free_sum(keeper, first, second, target):
+    """Store the finite free additive convolution."""
+    return store_combined(keeper, first, second, target, free_sum_of)
+
+
+def mean(keeper, slot):
+    """Answer the mean of the roots."""
+    check_slots([slot])
+    return [0] + list(mean_of_roots(keeper.nonzero_polynomial(slot)))
+
+
+def variance(keeper, slot):
+    """Answer the variance of the roots."""
+    check_slots([slot])
+    return [0] + list(variance_of_roots(keeper.nonzero_polynomial(slot)))
+
+
+def chain_in_slot(keeper, slot, bits):
+    """Give the chain for the roots times 2^bits of the polynomial in the slot, which has a root."""
+    check_slots([slot])
+    polynomial = keeper.nonzero_polynomial(slot)
+    check_bits(bits)
+    chain = chain_of_scaled_roots(polynomial, bits)
+    if count_real_roots(chain) == 0:
+        raise NoRoot()
+    return chain
+
+
+def greatest_root(keeper, slot, bits):
+    """Answer the floor of the greatest root."""
+    return [0, floor_of_root(chain_in_slot(keeper, slot, bits), 1)]
+
+
+def smallest_root(keeper, slot, bits):
+    """Answer the floor of the smallest root."""
+    chain = chain_in_slot(keeper, slot, bits)
+    return [0, floor_of_root(chain, count_real_roots(chain))]
+
+
+def has_nonnegative_roots(keeper, slot):
+    """Answer 1 if the polynomial in the slot is real-rooted and has no negative root, else 0."""
+    check_slots([slot])
+    return [1 if has_only_nonnegative_roots(keeper.nonzero_polynomial(slot)) else 0]
+
+
+def summary(keeper):
+    """Answer the number of slots, then the number of coefficients in each."""
+    return [SLOT_COUNT] + keeper.coefficient_counts()
+
+
+# The calls behind create, by how many whole numbers they take.
+OF_NONE = {21: summary}
+OF_ONE = {3: get_polynomial, 4: is_real_rooted, 16: mean, 17: variance, 20: has_nonnegative_roots}
+OF_TWO = {7: reciprocal, 8: derivative, 18: greatest_root, 19: smallest_root}
+OF_TWO_AND_A_ROW = {1: set_polynomial, 2: set_roots}
+OF_THREE = {
+    11: apply_multiplier,
+    12: schur_szego,
+    13: schur_product,
+    14: hadamard_product,
+    15: free_sum,
 }
+OF_FOUR = {5: shift_roots, 6: scale_roots, 9: subtract_derivative, 10: polar_derivative}
 
 
 def perform(keeper, number, parameters, row):
@@ -122,12 +221,14 @@ def perform(keeper, number, parameters, row):
     if number == 0:
         return create(keeper)
     keeper.check_created()
-    if number in OF_A_ROW:
-        return OF_A_ROW[number](keeper, parameters[0], parameters[1], row)
-    if number in OF_A_SLOT:
-        return OF_A_SLOT[number](keeper, parameters[0])
-    if number in OF_TWO_SLOTS:
-        return OF_TWO_SLOTS[number](keeper, parameters[0], parameters[1])
-    return OF_TWO_SLOTS_AND_AN_ARGUMENT[number](
-        keeper, parameters[0], parameters[1], parameters[2], parameters[3]
-    )
+    if number in OF_NONE:
+        return OF_NONE[number](keeper)
+    if number in OF_ONE:
+        return OF_ONE[number](keeper, parameters[0])
+    if number in OF_TWO:
+        return OF_TWO[number](keeper, parameters[0], parameters[1])
+    if number in OF_TWO_AND_A_ROW:
+        return OF_TWO_AND_A_ROW[number](keeper, parameters[0], parameters[1], row)
+    if number in OF_THREE:
+        return OF_THREE[number](keeper, parameters[0], parameters[1], parameters[2])
+    return OF_FOUR[number](keeper, parameters[0], parameters[1], parameters[2], parameters[3])

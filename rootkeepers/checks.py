@@ -4,6 +4,8 @@ from rootkeepers.refusals import NoSuchSlot, OutOfRange, TooLarge
 
 SLOT_COUNT = 4
 LARGEST_PARAMETER = 1000
+LAST_SEQUENCE = 5
+MOST_BITS = 30
 
 
 def check_slots(slots):
@@ -29,6 +31,18 @@ def check_row(numerators, most, denominator):
     check_fraction(0, denominator)
     for numerator in numerators:
         check_fraction(numerator, denominator)
+
+
+def check_sequence(sequence):
+    """Refuse a multiplier sequence that does not exist."""
+    if sequence < 0 or sequence > LAST_SEQUENCE:
+        raise OutOfRange()
+
+
+def check_bits(bits):
+    """Refuse a number of bits outside its range."""
+    if bits < 0 or bits > MOST_BITS:
+        raise OutOfRange()
 
 
 def check_size(polynomial):

@@ -36,3 +36,10 @@ def times_whole(number, factor):
 def negative(number):
     """Give a fraction with the other sign."""
     return (-number[0], number[1])
+
+
+def inverse(number):
+    """Give 1 / number, for a fraction other than 0."""
+    if number[0] < 0:
+        return (-number[1], -number[0])
+    return (number[1], number[0])

@@ -3,7 +3,7 @@
 from rootkeepers.checks import SLOT_COUNT, check_size
 from rootkeepers.fractionpairs import fraction
 from rootkeepers.polynomials import without_end_zeros
-from rootkeepers.refusals import NotCreated, ZeroPolynomial
+from rootkeepers.refusals import DifferentDegrees, NotCreated, ZeroPolynomial
 
 
 class Keeper:
@@ -33,6 +33,17 @@ class Keeper:
         if len(self.slots[slot]) == 0:
             raise ZeroPolynomial()
         return self.slots[slot]
+
+    def pair_of_one_degree(self, first, second):
+        """Give the polynomials in two slots, and refuse a zero polynomial or different degrees."""
+        pair = (self.nonzero_polynomial(first), self.nonzero_polynomial(second))
+        if len(pair[0]) != len(pair[1]):
+            raise DifferentDegrees()
+        return pair
+
+    def coefficient_counts(self):
+        """Give the number of coefficients in each slot."""
+        return [len(polynomial) for polynomial in self.slots]
 
     def store(self, slot, coefficients):
         """Put the polynomial with these coefficients into a slot and give it back."""

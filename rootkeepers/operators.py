@@ -2,10 +2,18 @@
 
 from rootkeepers.calls import perform
 from rootkeepers.keeper import Keeper
-from rootkeepers.refusals import NoSuchSlot, NotCreated, OutOfRange, TooLarge, ZeroPolynomial
+from rootkeepers.refusals import (
+    DifferentDegrees,
+    NoRoot,
+    NoSuchSlot,
+    NotCreated,
+    OutOfRange,
+    TooLarge,
+    ZeroPolynomial,
+)
 
-# How many whole numbers each call has ahead of its row, without its own number.
-PARAMETER_COUNTS = {0: 0, 1: 2, 2: 2, 3: 1, 4: 1, 5: 4, 6: 4, 7: 2, 8: 2, 9: 4, 10: 4}
+# For the calls 0 to 21: how many whole numbers each has ahead of its row, without its own number.
+PARAMETER_COUNTS = (0, 2, 2, 1, 1, 4, 4, 2, 2, 4, 4, 3, 3, 3, 3, 3, 1, 1, 2, 2, 1, 0)
 CALLS_WITH_A_ROW = (1, 2)
 
 
@@ -34,6 +42,10 @@ def answer(keeper, number, parameters, row):
         return [-22]
     except ZeroPolynomial:
         return [-33]
+    except DifferentDegrees:
+        return [-34]
+    except NoRoot:
+        return [-34]
     except TooLarge:
         return [-75]
 

@@ -49,20 +49,29 @@ def sturm_chain(numbers):
 
 
 def sign_changes(numbers):
-    """Count the neighbours of different signs; none of the numbers is 0."""
+    """Count the neighbours of different signs, where zeros are passed over."""
+    signed = [number for number in numbers if number != 0]
     changes = 0
-    for k in range(1, len(numbers)):
-        if (numbers[k - 1] < 0) != (numbers[k] < 0):
+    for k in range(1, len(signed)):
+        if (signed[k - 1] < 0) != (signed[k] < 0):
             changes += 1
     return changes
 
 
+def far_right_changes(chain):
+    """Count the sign changes in the chain to the right of all roots."""
+    return sign_changes([numbers[-1] for numbers in chain])
+
+
+def far_left_changes(chain):
+    """Count the sign changes in the chain to the left of all roots."""
+    # An odd degree, so an even number of coefficients, turns the sign on the far left.
+    return sign_changes([-numbers[-1] if len(numbers) % 2 == 0 else numbers[-1] for numbers in chain])
+
+
 def count_real_roots(chain):
     """Count the different real roots of the chain's first polynomial."""
-    far_right = [numbers[-1] for numbers in chain]
-    # An odd degree, so an even number of coefficients, turns the sign on the far left.
-    far_left = [-numbers[-1] if len(numbers) % 2 == 0 else numbers[-1] for numbers in chain]
-    return sign_changes(far_left) - sign_changes(far_right)
+    return far_left_changes(chain) - far_right_changes(chain)
 
 
 def has_only_real_roots(polynomial):
@@ -71,3 +80,10 @@ def has_only_real_roots(polynomial):
     # The common divisor with the derivative takes away what roots have beyond multiplicity 1.
     different_roots = len(chain[0]) - len(chain[-1])
     return count_real_roots(chain) == different_roots
+
+
+def has_only_nonnegative_roots(polynomial):
+    """Tell whether a nonzero polynomial is real-rooted and has no negative root."""
+    turned = [-pair[0] if k % 2 == 1 else pair[0] for k, pair in enumerate(polynomial)]
+    # By Descartes' rule a real-rooted polynomial p has as many negative roots as p(-x) has sign changes.
+    return sign_changes(turned) == 0 and has_only_real_roots(polynomial)

@@ -17,5 +17,13 @@ class ZeroPolynomial(Exception):
     """A polynomial that must not be zero is zero."""
 
 
+class DifferentDegrees(Exception):
+    """Two polynomials that must have the same degree have different ones."""
+
+
+class NoRoot(Exception):
+    """A polynomial that is asked for a root has none."""
+
+
 class TooLarge(Exception):
     """A result has a number that is too large to be stored."""

@@ -2,9 +2,9 @@
 
 from fractions import Fraction
 from itertools import combinations
-from math import comb
+from math import comb, factorial
 
-from sessions import LARGEST, listed, product, trimmed
+from sessions import LARGEST, PRODUCTS, listed, product, trimmed
 
 SLOTS = range(4)
 
@@ -50,6 +50,88 @@ def is_real_rooted(polynomial):
     return True
 
 
+def signature(matrix):
+    """How many more squares with a factor above 0 than below 0 a quadratic form has (Sylvester)."""
+    rows = [list(row) for row in matrix]
+    result = 0
+    while rows:
+        size = range(len(rows))
+        pivot = next((i for i in size if rows[i][i] != 0), None)
+        if pivot is None:
+            mixed = next(((i, k) for i in size for k in size if rows[i][k] != 0), None)
+            if mixed is None:
+                return result
+            pivot, other = mixed
+            rows[pivot] = [a + b for a, b in zip(rows[pivot], rows[other])]
+            for row in rows:
+                row[pivot] += row[other]
+        base = rows[pivot]
+        result += 1 if base[pivot] > 0 else -1
+        rest = [i for i in size if i != pivot]
+        rows = [[rows[i][k] - rows[i][pivot] * base[k] / base[pivot] for k in rest] for i in rest]
+    return result
+
+
+def value(polynomial, place):
+    return sum((coefficient * place ** k for k, coefficient in enumerate(polynomial)), Fraction(0))
+
+
+def count_roots(polynomial):
+    """By Hermite: the number of different real roots."""
+    degree = len(polynomial) - 1
+    sums = power_sums(polynomial, 2 * degree)
+    return signature([[sums[i + k] for k in range(degree)] for i in range(degree)])
+
+
+def count_roots_from(polynomial, place):
+    """The number of different real roots that are not below the place."""
+    degree = len(polynomial) - 1
+    sums = power_sums(polynomial, 2 * degree + 1)
+    moved = [sums[k + 1] - place * sums[k] for k in range(2 * degree)]
+    above_less_below = signature([[moved[i + k] for k in range(degree)] for i in range(degree)])
+    at = 1 if value(polynomial, place) == 0 else 0
+    return (count_roots(polynomial) - at + above_less_below) // 2 + at
+
+
+def multiplier(sequence, k):
+    return [k, k + 1, Fraction(1, factorial(k)), Fraction(1, 2 ** (k * k)), k * (k - 1), k * k][sequence]
+
+
+def free_sum(p, q):
+    """As the words tell it: each derivative of p, times a derivative of q at 0."""
+    n = len(p) - 1
+    p_derivatives, q_derivatives = [p], [q]
+    for k in range(n):
+        p_derivatives.append(derivative(p_derivatives[-1]))
+        q_derivatives.append(derivative(q_derivatives[-1]))
+    total = [Fraction(0)] * (n + 1)
+    for k in range(n + 1):
+        for power, coefficient in enumerate(p_derivatives[k]):
+            total[power] += coefficient * q_derivatives[n - k][0]
+    return [coefficient / factorial(n) for coefficient in total]
+
+
+def product_of(name, p, q):
+    n = len(p) - 1
+    if name == "schur_szego":
+        return [p[k] * q[k] / comb(n, k) for k in range(n + 1)]
+    if name == "schur_product":
+        return [p[k] * q[k] * factorial(k) for k in range(n + 1)]
+    if name == "hadamard_product":
+        return [p[k] * q[k] for k in range(n + 1)]
+    return free_sum(p, q)
+
+
+def moment(name, p):
+    n = len(p) - 1
+    if n == 0:
+        return Fraction(0)
+    sums = power_sums(p, 3)
+    if name == "mean":
+        return sums[1] / n
+    return sums[2] / n - (sums[1] / n) ** 2
+
+
 def derivative(p):
     return [k * p[k] for k in range(1, len(p))]
 
@@ -78,15 +160,24 @@ class Model:
         self.slots = None
 
     def answer(self, name, *arguments):
+        """Of greatest_root and smallest_root the 0 alone; is_floor tells of the floor."""
         if name == "create":
             self.slots = [[], [], [], []]
             return [0]
         if self.slots is None:
             return [-11]
+        if name == "summary":
+            return [4] + [len(polynomial) for polynomial in self.slots]
         if name in ("set_polynomial", "set_roots"):
             return self.set_row(name, *arguments)
-        if name in ("get_polynomial", "is_real_rooted"):
+        if name in ("get_polynomial", "is_real_rooted", "mean", "variance", "has_nonnegative_roots"):
             return self.look(name, *arguments)
+        if name in ("greatest_root", "smallest_root"):
+            return self.look_for_root(*arguments)
+        if name == "apply_multiplier":
+            return self.multiply(*arguments)
+        if name in PRODUCTS:
+            return self.combine(name, *arguments)
         return self.operate(name, *arguments)
 
     def set_row(self, name, slot, denominator, row):
@@ -103,11 +194,54 @@ class Model:
     def look(self, name, slot):
         if slot not in SLOTS:
             return [-2]
+        polynomial = self.slots[slot]
         if name == "get_polynomial":
-            return listed(self.slots[slot])
+            return listed(polynomial)
+        if not polynomial:
+            return [-33]
+        if name in ("mean", "variance"):
+            result = moment(name, polynomial)
+            return [0, result.numerator, result.denominator]
+        right = is_real_rooted(polynomial)
+        if name == "has_nonnegative_roots" and count_roots_from(polynomial, 0) < count_roots(polynomial):
+            right = False
+        return [1 if right else 0]
+
+    def look_for_root(self, slot, bits):
+        if slot not in SLOTS:
+            return [-2]
         if not self.slots[slot]:
             return [-33]
-        return [1 if is_real_rooted(self.slots[slot]) else 0]
+        if bits > 30:
+            return [-22]
+        return [0] if count_roots(self.slots[slot]) > 0 else [-34]
+
+    def is_floor(self, name, slot, bits, floor):
+        """Whether the root is in the place floor / 2^bits or above it, but not at the next one."""
+        polynomial = self.slots[slot]
+        wanted = 1 if name == "greatest_root" else count_roots(polynomial)
+        here = count_roots_from(polynomial, Fraction(floor, 2 ** bits))
+        return here >= wanted > count_roots_from(polynomial, Fraction(floor + 1, 2 ** bits))
+
+    def multiply(self, source, target, sequence):
+        if source not in SLOTS or target not in SLOTS:
+            return [-2]
+        if sequence > 5:
+            return [-22]
+        polynomial = self.slots[source]
+        if not polynomial:
+            return [-33]
+        return self.store(target, [polynomial[k] * multiplier(sequence, k) for k in range(len(polynomial))])
+
+    def combine(self, name, first, second, target):
+        if any(slot not in SLOTS for slot in (first, second, target)):
+            return [-2]
+        p, q = self.slots[first], self.slots[second]
+        if not p or not q:
+            return [-33]
+        if len(p) != len(q):
+            return [-34]
+        return self.store(target, product_of(name, p, q))
 
     def operate(self, name, source, target, numerator=0, denominator=1):
         if source not in SLOTS or target not in SLOTS:

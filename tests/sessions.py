@@ -16,7 +16,20 @@ NUMBERS = {
     "derivative": 8,
     "subtract_derivative": 9,
     "polar_derivative": 10,
+    "apply_multiplier": 11,
+    "schur_szego": 12,
+    "schur_product": 13,
+    "hadamard_product": 14,
+    "free_sum": 15,
+    "mean": 16,
+    "variance": 17,
+    "greatest_root": 18,
+    "smallest_root": 19,
+    "has_nonnegative_roots": 20,
+    "summary": 21,
 }
+
+PRODUCTS = ("schur_szego", "schur_product", "hadamard_product", "free_sum")
 
 LARGEST = 10 ** 30
 CREATE = ("create",)

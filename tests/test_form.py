@@ -16,6 +16,17 @@ BEHIND_CREATE = [
     ("derivative", 0, 1),
     ("subtract_derivative", 0, 1, 1, 1),
     ("polar_derivative", 0, 1, 1, 1),
+    ("apply_multiplier", 0, 1, 1),
+    ("schur_szego", 0, 0, 1),
+    ("schur_product", 0, 0, 1),
+    ("hadamard_product", 0, 0, 1),
+    ("free_sum", 0, 0, 1),
+    ("mean", 0),
+    ("variance", 0),
+    ("greatest_root", 0, 4),
+    ("smallest_root", 0, 4),
+    ("has_nonnegative_roots", 0),
+    ("summary",),
 ]
 
 WRONG_TOO = [
@@ -31,6 +42,19 @@ WRONG_TOO = [
     ("derivative", 4, 4),
     ("subtract_derivative", 0, 0, -1001, 1),
     ("polar_derivative", 0, 0, 1, 1001),
+    ("apply_multiplier", 4, 4, 6),
+    ("apply_multiplier", 0, 0, 6),
+    ("schur_szego", 0, 0, 4),
+    ("schur_product", 0, 4, 0),
+    ("hadamard_product", 4, 0, 0),
+    ("free_sum", 4, 4, 4),
+    ("mean", 4),
+    ("variance", 4294967295),
+    ("greatest_root", 4, 31),
+    ("greatest_root", 0, 31),
+    ("smallest_root", 4, 31),
+    ("smallest_root", 0, 4294967295),
+    ("has_nonnegative_roots", 4),
 ]
 
 
@@ -38,13 +62,30 @@ class TheList(unittest.TestCase):
 
     def test_the_examples_of_the_document(self):
         session = [
-            CREATE,
-            ("set_roots", 0, 1, [1, -1]),
-            ("shift_roots", 0, 1, 1, 1),
-            ("polar_derivative", 0, 3, 0, 1),
+            (CREATE, [0]),
+            (("set_roots", 0, 1, [1, -1]), [3, -1, 1, 0, 1, 1, 1]),
+            (("shift_roots", 0, 1, 1, 1), [3, 0, 1, -2, 1, 1, 1]),
+            (("free_sum", 0, 0, 2), [3, -2, 1, 0, 1, 1, 1]),
+            (("variance", 0), [0, 1, 1]),
+            (("variance", 2), [0, 2, 1]),
+            (("greatest_root", 2, 4), [0, 22]),
+            (("schur_szego", 0, 0, 3), [3, 1, 1, 0, 1, 1, 1]),
+            (("is_real_rooted", 3), [0]),
+            (("apply_multiplier", 0, 3, 1), [3, -1, 1, 0, 1, 3, 1]),
+            (("polar_derivative", 0, 3, 0, 1), [1, -2, 1]),
+            (("free_sum", 0, 3, 2), [-34]),
         ]
-        expected = [[0], [3, -1, 1, 0, 1, 1, 1], [3, 0, 1, -2, 1, 1, 1], [1, -2, 1]]
-        self.assertEqual(run(session), expected)
+        for length in range(1, len(session) + 1):
+            results = run([call for call, expected in session[:length]])
+            self.assertEqual(results, [expected for call, expected in session[:length]])
+
+    def test_the_examples_as_one_list(self):
+        calls = [0, 2, 0, 1, 2, 1, -1, 5, 0, 1, 1, 1, 15, 0, 0, 2, 17, 0, 17, 2, 18, 2, 4, 12, 0, 0, 3]
+        calls += [4, 3, 11, 0, 3, 1, 10, 0, 3, 0, 1, 15, 0, 3, 2]
+        expected = [1, 0, 7, 3, -1, 1, 0, 1, 1, 1, 7, 3, 0, 1, -2, 1, 1, 1, 7, 3, -2, 1, 0, 1, 1, 1]
+        expected += [3, 0, 1, 1, 3, 0, 2, 1, 2, 0, 22, 7, 3, 1, 1, 0, 1, 1, 1, 1, 0]
+        expected += [7, 3, -1, 1, 0, 1, 3, 1, 3, 1, -2, 1, 1, -34]
+        self.assertEqual(answers(calls), expected)
 
     def test_the_numbers_as_they_stand(self):
         calls = [0, 2, 0, 1, 2, 1, -1, 5, 0, 1, 1, 1, 3, 3, 3, 4, 4, 0]
@@ -52,8 +93,21 @@ class TheList(unittest.TestCase):
         self.assertEqual(answers(calls), expected)
 
     def test_an_error_is_its_code_alone(self):
-        calls = [3, 0, 0, 3, 4, 1, 0, 0, 0, 4, 0]
-        self.assertEqual(answers(calls), [1, -11, 1, 0, 1, -2, 1, -22, 1, -33])
+        calls = [3, 0, 0, 3, 4, 1, 0, 0, 0, 4, 0, 2, 0, 1, 0, 18, 0, 0]
+        self.assertEqual(answers(calls), [1, -11, 1, 0, 1, -2, 1, -22, 1, -33, 3, 1, 1, 1, 1, -34])
+
+    def test_how_many_numbers_each_call_takes(self):
+        # Each call is followed by summary, which would be misread if too few or too many were taken.
+        for call in BEHIND_CREATE:
+            with self.subTest(call=call):
+                results = split(answers(encoded([CREATE, BEHIND_CREATE[0], call]) + [21]))
+                self.assertEqual(len(results), 4)
+                self.assertEqual(results[-1][0], 4)
+                self.assertEqual(len(results[-1]), 5)
+
+    def test_later_numbers_may_be_below_0_or_beyond_32_bits(self):
+        session = [CREATE, ("set_roots", 0, 1, [-1000]), ("greatest_root", 0, 30), ("mean", 0)]
+        self.assertEqual(run(session)[2:], [[0, -1000 * 2 ** 30], [0, -1000, 1]])
 
     def test_empty_rows(self):
         calls = [0, 1, 0, 1, 0, 2, 1, 1, 0, 3, 1]

@@ -1,4 +1,4 @@
-"""set_polynomial, set_roots and get_polynomial."""
+"""set_polynomial, set_roots, get_polynomial and summary."""
 
 import unittest
 
@@ -180,6 +180,31 @@ class GetPolynomial(unittest.TestCase):
         self.assertEqual(last(("get_polynomial", 3)), [0])
         self.assertEqual(last(("get_polynomial", 4)), [-2])
         self.assertEqual(last(("get_polynomial", 4294967295)), [-2])
+
+
+class Summary(unittest.TestCase):
+
+    def test_behind_create(self):
+        self.assertEqual(last(("summary",)), [4, 0, 0, 0, 0])
+
+    def test_before_create(self):
+        self.assertEqual(run([("summary",), CREATE, ("summary",)]), [[-11], [0], [4, 0, 0, 0, 0]])
+
+    def test_each_slot_has_its_count(self):
+        filled = [("set_polynomial", 0, 1, [1, 2, 3]), ("set_roots", 1, 1, []), ("set_roots", 3, 7, [0] * 6)]
+        self.assertEqual(last(*filled, ("summary",)), [4, 3, 1, 0, 7])
+
+    def test_zeros_at_the_end_do_not_count(self):
+        filled = [("set_polynomial", 2, 1, [0, 0, 3, 0, 0]), ("set_polynomial", 0, 1, [0] * 7)]
+        self.assertEqual(last(*filled, ("summary",)), [4, 0, 0, 3, 0])
+
+    def test_it_follows_what_is_stored(self):
+        calls = [("set_roots", 0, 1, [1, 2, 3]), ("summary",), ("derivative", 0, 3), ("summary",)]
+        calls += [("derivative", 4, 3), ("summary",), ("polar_derivative", 0, 0, 1, 1), ("summary",)]
+        calls += [("set_polynomial", 3, 1, []), ("summary",), CREATE, ("summary",)]
+        expected = [[4, 4, 0, 0, 0], [4, 4, 0, 0, 3], [4, 4, 0, 0, 3], [4, 3, 0, 0, 3]]
+        expected += [[4, 3, 0, 0, 0], [4, 0, 0, 0, 0]]
+        self.assertEqual(after_create(*calls)[1::2], expected)
 
 
 if __name__ == "__main__":
